@@ -1,0 +1,133 @@
+package number
+
+import (
+	"cmp"
+	"strconv"
+	"strings"
+
+	"agraffe/api"
+)
+
+// maxDigits is how many digits a number in the text of a fraction has at most.
+const maxDigits = 10
+
+// CheckFrac looks at the form first (P1.1): the parts of a fraction in a wrong form mean nothing.
+func CheckFrac(f api.Frac) api.Errno {
+	if f.Den < 1 || commonDivisor(size(f.Num), size(f.Den)) != 1 {
+		return api.ErrForm
+	}
+	if !within(f.Num, api.MaxPart) || f.Den > api.MaxPart {
+		return api.ErrRange
+	}
+	return api.OK
+}
+
+func checkFracs(l ...api.Frac) api.Errno {
+	for _, f := range l {
+		if e := CheckFrac(f); e != api.OK {
+			return e
+		}
+	}
+	return api.OK
+}
+
+// reduced takes a denominator above 0.
+func reduced(num, den int) api.Frac {
+	divisor := int(commonDivisor(size(num), size(den)))
+	return api.Frac{Num: num / divisor, Den: den / divisor}
+}
+
+func reducedWithin(num, den int) (api.Frac, api.Errno) {
+	f := reduced(num, den)
+	if CheckFrac(f) != api.OK {
+		return api.Frac{}, api.ErrLarge
+	}
+	return f, api.OK
+}
+
+// Add returns a sum (P1.1).
+func Add(a, b api.Frac) (api.Frac, api.Errno) {
+	if e := checkFracs(a, b); e != api.OK {
+		return api.Frac{}, e
+	}
+	return reducedWithin(a.Num*b.Den+b.Num*a.Den, a.Den*b.Den)
+}
+
+// Times returns a product (P1.1).
+func Times(a, b api.Frac) (api.Frac, api.Errno) {
+	if e := checkFracs(a, b); e != api.OK {
+		return api.Frac{}, e
+	}
+	return reducedWithin(a.Num*b.Num, a.Den*b.Den)
+}
+
+// Divide returns a divided by b (P1.1).
+func Divide(a, b api.Frac) (api.Frac, api.Errno) {
+	if e := checkFracs(a, b); e != api.OK {
+		return api.Frac{}, e
+	}
+	if b.Num == 0 {
+		return api.Frac{}, api.ErrZero
+	}
+	if b.Num < 0 {
+		a.Num, b.Num = -a.Num, -b.Num
+	}
+	return reducedWithin(a.Num*b.Den, a.Den*b.Num)
+}
+
+// Compare returns -1, 0 or 1 as a is less than, equal to, or greater than b (P1.1).
+func Compare(a, b api.Frac) (int, api.Errno) {
+	if e := checkFracs(a, b); e != api.OK {
+		return 0, e
+	}
+	return cmp.Compare(a.Num*b.Den, b.Num*a.Den), api.OK
+}
+
+// Rounded does not hold its bounds against MaxNumber: P1.1 names no error for that.
+func Rounded(f api.Frac, times int) (api.Range, api.Errno) {
+	if e := CheckFrac(f); e != api.OK {
+		return api.Range{}, e
+	}
+	if times < 1 || times > maxTimes {
+		return api.Range{}, api.ErrRange
+	}
+	product := f.Num * times
+	return api.Range{Lo: dividedDown(product, f.Den), Hi: -dividedDown(-product, f.Den)}, api.OK
+}
+
+// FormatFrac returns the text of any fraction, a valid one or not (P1.8).
+func FormatFrac(f api.Frac) string {
+	if f.Den == 1 {
+		return strconv.Itoa(f.Num)
+	}
+	return strconv.Itoa(f.Num) + "/" + strconv.Itoa(f.Den)
+}
+
+// ParseFrac returns the fraction with a text (P1.8).
+func ParseFrac(s string) (api.Frac, api.Errno) {
+	num, den, cut := strings.Cut(s, "/")
+	f := api.Frac{Den: 1}
+	fits := false
+	if f.Num, fits = writtenNumber(num); !fits {
+		return api.Frac{}, api.ErrSyntax
+	}
+	if cut {
+		if f.Den, fits = writtenNumber(den); !fits || f.Den < 2 {
+			return api.Frac{}, api.ErrSyntax
+		}
+	}
+	if e := CheckFrac(f); e != api.OK {
+		return api.Frac{}, e
+	}
+	return f, api.OK
+}
+
+// writtenNumber accepts a text only if the number that it stands for is written like that:
+// this refuses plus signs, leading zeros and "-0" at once.
+func writtenNumber(s string) (int, bool) {
+	n, err := strconv.Atoi(s)
+	if err != nil || strconv.Itoa(n) != s || len(strings.TrimPrefix(s, "-")) > maxDigits {
+		return 0, false
+	}
+	return n, true
+}

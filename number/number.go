@@ -1,0 +1,74 @@
+// Package number is chapter 1: fractions, pitches, ranges, systems of differences, lines. See shared/doc/01-number.md.
+//
+// All of it is exact: what does not fit an int is kept in a natural (natural.go).
+package number
+
+import "agraffe/api"
+
+const (
+	maxTimes  = 1000000000          // by what fractions and pitches are multiplied
+	maxPower  = 1000000000000000000 // of what roots are taken
+	maxDegree = 12                  // degrees of roots
+)
+
+// within compares without turning a sign: the least int has no positive counterpart.
+func within(n, most int) bool {
+	return -most <= n && n <= most
+}
+
+// size is unsigned because the size of the least int is no int.
+func size(n int) uint64 {
+	if n < 0 {
+		return -uint64(n)
+	}
+	return uint64(n)
+}
+
+func commonDivisor(a, b uint64) uint64 {
+	for b != 0 {
+		a, b = b, a%b
+	}
+	return a
+}
+
+// dividedDown takes a positive divisor; Go's own division rounds towards 0.
+func dividedDown(n, by int) int {
+	quotient := n / by
+	if n%by < 0 {
+		quotient--
+	}
+	return quotient
+}
+
+// greatest returns the greatest number from low to high for which holds answers true.
+// It takes for granted that low is such a number, and that the numbers behind one that is none are none.
+func greatest(low, high int, holds func(int) bool) int {
+	for low < high {
+		middle := low + (high-low+1)/2
+		if holds(middle) {
+			low = middle
+		} else {
+			high = middle - 1
+		}
+	}
+	return low
+}
+
+// Root returns the greatest whole number whose k-th power is at most n (P1.2).
+func Root(n, k int) (int, api.Errno) {
+	if n < 0 || n > maxPower || k < 1 || k > maxDegree {
+		return 0, api.ErrRange
+	}
+	// Each power is divided into n before it is taken: the next one may be beyond an int.
+	powerFits := func(root int) bool {
+		power := 1
+		for range k {
+			if power > n/root {
+				return false
+			}
+			power *= root
+		}
+		return true
+	}
+	return greatest(0, n, powerFits), api.OK
+}

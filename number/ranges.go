@@ -1,0 +1,80 @@
+package number
+
+import "agraffe/api"
+
+// CheckRange returns ErrRange for a bound that is too great in size, ErrOrder for bounds in the wrong order (P1.5).
+func CheckRange(r api.Range) api.Errno {
+	if !within(r.Lo, api.MaxNumber) || !within(r.Hi, api.MaxNumber) {
+		return api.ErrRange
+	}
+	if r.Lo > r.Hi {
+		return api.ErrOrder
+	}
+	return api.OK
+}
+
+func checkRanges(a, b api.Range) api.Errno {
+	if e := CheckRange(a); e != api.OK {
+		return e
+	}
+	return CheckRange(b)
+}
+
+// Plus returns the sums of the bounds (P1.5).
+func Plus(a, b api.Range) (api.Range, api.Errno) {
+	if e := checkRanges(a, b); e != api.OK {
+		return api.Range{}, e
+	}
+	sum := api.Range{Lo: a.Lo + b.Lo, Hi: a.Hi + b.Hi}
+	if CheckRange(sum) != api.OK {
+		return api.Range{}, api.ErrLarge
+	}
+	return sum, api.OK
+}
+
+// Scaled returns the least range with whole bounds that contains all numbers of r multiplied by by (P1.5).
+func Scaled(r api.Range, by api.Frac) (api.Range, api.Errno) {
+	if e := CheckRange(r); e != api.OK {
+		return api.Range{}, e
+	}
+	if e := CheckFrac(by); e != api.OK {
+		return api.Range{}, e
+	}
+	if by.Num < 0 {
+		r.Lo, r.Hi = r.Hi, r.Lo
+	}
+	low, lowFits := productDown(r.Lo, by)
+	high, highFits := productDown(r.Hi, api.Frac{Num: -by.Num, Den: by.Den})
+	if !lowFits || !highFits {
+		return api.Range{}, api.ErrLarge
+	}
+	return api.Range{Lo: low, Hi: -high}, api.OK
+}
+
+// productDown returns n multiplied by a fraction, rounded down, and whether that may be a bound of a range.
+// The whole product may be beyond an int: n is divided first, and its remainder multiplied apart.
+func productDown(n int, by api.Frac) (int, bool) {
+	if by.Num == 0 {
+		return 0, true
+	}
+	whole := dividedDown(n, by.Den)
+	remainder := n - whole*by.Den
+	// What the remainder adds is at most MaxPart in size: it cannot bring such a product back.
+	if size(whole) > 2*api.MaxNumber/size(by.Num) {
+		return 0, false
+	}
+	product := whole*by.Num + dividedDown(remainder*by.Num, by.Den)
+	return product, within(product, api.MaxNumber)
+}
+
+// Meet returns the range that two ranges have in common (P1.5).
+func Meet(a, b api.Range) (api.Range, api.Errno) {
+	if e := checkRanges(a, b); e != api.OK {
+		return api.Range{}, e
+	}
+	common := api.Range{Lo: max(a.Lo, b.Lo), Hi: min(a.Hi, b.Hi)}
+	if common.Lo > common.Hi {
+		return api.Range{}, api.ErrNone
+	}
+	return common, api.OK
+}
