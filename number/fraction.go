@@ -22,15 +22,6 @@ func CheckFrac(f api.Frac) api.Errno {
 	return api.OK
 }
 
-func checkFracs(l ...api.Frac) api.Errno {
-	for _, f := range l {
-		if e := CheckFrac(f); e != api.OK {
-			return e
-		}
-	}
-	return api.OK
-}
-
 // reduced takes a denominator above 0.
 func reduced(num, den int) api.Frac {
 	divisor := int(commonDivisor(size(num), size(den)))
@@ -47,7 +38,7 @@ func reducedWithin(num, den int) (api.Frac, api.Errno) {
 
 // Add returns a sum (P1.1).
 func Add(a, b api.Frac) (api.Frac, api.Errno) {
-	if e := checkFracs(a, b); e != api.OK {
+	if e := firstError(CheckFrac(a), CheckFrac(b)); e != api.OK {
 		return api.Frac{}, e
 	}
 	return reducedWithin(a.Num*b.Den+b.Num*a.Den, a.Den*b.Den)
@@ -55,7 +46,7 @@ func Add(a, b api.Frac) (api.Frac, api.Errno) {
 
 // Times returns a product (P1.1).
 func Times(a, b api.Frac) (api.Frac, api.Errno) {
-	if e := checkFracs(a, b); e != api.OK {
+	if e := firstError(CheckFrac(a), CheckFrac(b)); e != api.OK {
 		return api.Frac{}, e
 	}
 	return reducedWithin(a.Num*b.Num, a.Den*b.Den)
@@ -63,7 +54,7 @@ func Times(a, b api.Frac) (api.Frac, api.Errno) {
 
 // Divide returns a divided by b (P1.1).
 func Divide(a, b api.Frac) (api.Frac, api.Errno) {
-	if e := checkFracs(a, b); e != api.OK {
+	if e := firstError(CheckFrac(a), CheckFrac(b)); e != api.OK {
 		return api.Frac{}, e
 	}
 	if b.Num == 0 {
@@ -77,7 +68,7 @@ func Divide(a, b api.Frac) (api.Frac, api.Errno) {
 
 // Compare returns -1, 0 or 1 as a is less than, equal to, or greater than b (P1.1).
 func Compare(a, b api.Frac) (int, api.Errno) {
-	if e := checkFracs(a, b); e != api.OK {
+	if e := firstError(CheckFrac(a), CheckFrac(b)); e != api.OK {
 		return 0, e
 	}
 	return cmp.Compare(a.Num*b.Den, b.Num*a.Den), api.OK

@@ -74,7 +74,7 @@ func CheckLine(l []api.Dot, t api.Trend) api.Errno {
 	if e := checkDots(l); e != api.OK {
 		return e
 	}
-	if e := checkFracs(t.Start, t.Slope, t.Error); e != api.OK {
+	if e := firstError(CheckFrac(t.Start), CheckFrac(t.Slope), CheckFrac(t.Error)); e != api.OK {
 		return e
 	}
 	common, fits := commonMultiple(maxCommon, t.Start, t.Slope, t.Error)

@@ -11,6 +11,16 @@ const (
 	maxDegree = 12                  // degrees of roots
 )
 
+// firstError is for arguments, whose errors count in their order.
+func firstError(l ...api.Errno) api.Errno {
+	for _, e := range l {
+		if e != api.OK {
+			return e
+		}
+	}
+	return api.OK
+}
+
 // within compares without turning a sign: the least int has no positive counterpart.
 func within(n, most int) bool {
 	return -most <= n && n <= most

@@ -66,13 +66,6 @@ func CheckPitch(p api.Pitch) api.Errno {
 	return api.OK
 }
 
-func checkPitches(p, q api.Pitch) api.Errno {
-	if e := CheckPitch(p); e != api.OK {
-		return e
-	}
-	return CheckPitch(q)
-}
-
 // Normal returns a pitch in normal form (P1.3).
 func Normal(p api.Pitch) (api.Pitch, api.Errno) {
 	if e := CheckPitch(p); e != api.OK {
@@ -83,7 +76,7 @@ func Normal(p api.Pitch) (api.Pitch, api.Errno) {
 
 // Join returns the product of two pitches (P1.3).
 func Join(p, q api.Pitch) (api.Pitch, api.Errno) {
-	if e := checkPitches(p, q); e != api.OK {
+	if e := firstError(CheckPitch(p), CheckPitch(q)); e != api.OK {
 		return api.Pitch{}, e
 	}
 	sum, other := exponentsOf(p), exponentsOf(q)
@@ -95,10 +88,7 @@ func Join(p, q api.Pitch) (api.Pitch, api.Errno) {
 
 // Power returns the power of a pitch with a fraction as its exponent (P1.3).
 func Power(p api.Pitch, by api.Frac) (api.Pitch, api.Errno) {
-	if e := CheckPitch(p); e != api.OK {
-		return api.Pitch{}, e
-	}
-	if e := CheckFrac(by); e != api.OK {
+	if e := firstError(CheckPitch(p), CheckFrac(by)); e != api.OK {
 		return api.Pitch{}, e
 	}
 	raised := exponentsOf(p)
@@ -111,7 +101,7 @@ func Power(p api.Pitch, by api.Frac) (api.Pitch, api.Errno) {
 // Order returns -1, 0 or 1 as p is less than, equal to, or greater than q (P1.3).
 // A pitch and its powers with positive exponents are on the same side of 1, so the quotient is compared without its denominator.
 func Order(p, q api.Pitch) (int, api.Errno) {
-	if e := checkPitches(p, q); e != api.OK {
+	if e := firstError(CheckPitch(p), CheckPitch(q)); e != api.OK {
 		return 0, e
 	}
 	quotient, other := exponentsOf(p), exponentsOf(q)

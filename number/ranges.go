@@ -13,16 +13,9 @@ func CheckRange(r api.Range) api.Errno {
 	return api.OK
 }
 
-func checkRanges(a, b api.Range) api.Errno {
-	if e := CheckRange(a); e != api.OK {
-		return e
-	}
-	return CheckRange(b)
-}
-
 // Plus returns the sums of the bounds (P1.5).
 func Plus(a, b api.Range) (api.Range, api.Errno) {
-	if e := checkRanges(a, b); e != api.OK {
+	if e := firstError(CheckRange(a), CheckRange(b)); e != api.OK {
 		return api.Range{}, e
 	}
 	sum := api.Range{Lo: a.Lo + b.Lo, Hi: a.Hi + b.Hi}
@@ -34,10 +27,7 @@ func Plus(a, b api.Range) (api.Range, api.Errno) {
 
 // Scaled returns the least range with whole bounds that contains all numbers of r multiplied by by (P1.5).
 func Scaled(r api.Range, by api.Frac) (api.Range, api.Errno) {
-	if e := CheckRange(r); e != api.OK {
-		return api.Range{}, e
-	}
-	if e := CheckFrac(by); e != api.OK {
+	if e := firstError(CheckRange(r), CheckFrac(by)); e != api.OK {
 		return api.Range{}, e
 	}
 	if by.Num < 0 {
@@ -69,7 +59,7 @@ func productDown(n int, by api.Frac) (int, bool) {
 
 // Meet returns the range that two ranges have in common (P1.5).
 func Meet(a, b api.Range) (api.Range, api.Errno) {
-	if e := checkRanges(a, b); e != api.OK {
+	if e := firstError(CheckRange(a), CheckRange(b)); e != api.OK {
 		return api.Range{}, e
 	}
 	common := api.Range{Lo: max(a.Lo, b.Lo), Hi: min(a.Hi, b.Hi)}
