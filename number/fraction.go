@@ -6,6 +6,7 @@ import (
 	"strings"
 
 	"agraffe/api"
+	"agraffe/words"
 )
 
 // maxDigits is how many digits a number in the text of a fraction has at most.
@@ -99,11 +100,11 @@ func ParseFrac(s string) (api.Frac, api.Errno) {
 	num, den, cut := strings.Cut(s, "/")
 	f := api.Frac{Den: 1}
 	fits := false
-	if f.Num, fits = writtenNumber(num); !fits {
+	if f.Num, fits = words.Number(num, maxDigits); !fits {
 		return api.Frac{}, api.ErrSyntax
 	}
 	if cut {
-		if f.Den, fits = writtenNumber(den); !fits || f.Den < 2 {
+		if f.Den, fits = words.Number(den, maxDigits); !fits || f.Den < 2 {
 			return api.Frac{}, api.ErrSyntax
 		}
 	}
@@ -111,14 +112,4 @@ func ParseFrac(s string) (api.Frac, api.Errno) {
 		return api.Frac{}, e
 	}
 	return f, api.OK
-}
-
-// writtenNumber accepts a text only if the number that it stands for is written like that:
-// this refuses plus signs, leading zeros and "-0" at once.
-func writtenNumber(s string) (int, bool) {
-	n, err := strconv.Atoi(s)
-	if err != nil || strconv.Itoa(n) != s || len(strings.TrimPrefix(s, "-")) > maxDigits {
-		return 0, false
-	}
-	return n, true
 }

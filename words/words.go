@@ -1,0 +1,89 @@
+// Package words is no chapter: it holds what the texts of the layers have in common, which are names, numbers,
+// and lines of words with single blanks between.
+package words
+
+import (
+	"iter"
+	"strconv"
+	"strings"
+
+	"agraffe/api"
+)
+
+// IsName tells whether s is a name: 1 to 12 letters, digits and "-", beginning with a letter.
+func IsName(s string) bool {
+	if s == "" || len(s) > api.MaxName || !isLetter(s[0]) {
+		return false
+	}
+	for i := range len(s) {
+		if c := s[i]; !isLetter(c) && c != '-' && (c < '0' || c > '9') {
+			return false
+		}
+	}
+	return true
+}
+
+func isLetter(c byte) bool {
+	return 'a' <= c && c <= 'z' || 'A' <= c && c <= 'Z'
+}
+
+// Number reads a number of at most so many digits.
+// It accepts a text only if the number that it stands for is written like that: this refuses plus signs,
+// leading zeros and "-0" at once.
+func Number(s string, digits int) (int, bool) {
+	n, err := strconv.Atoi(s)
+	if err != nil || strconv.Itoa(n) != s || len(strings.TrimPrefix(s, "-")) > digits {
+		return 0, false
+	}
+	return n, true
+}
+
+// Numbers reads words that are all numbers of at most so many digits.
+func Numbers(l []string, digits int) ([]int, bool) {
+	numbers := make([]int, len(l))
+	for i, s := range l {
+		n, fits := Number(s, digits)
+		if !fits {
+			return nil, false
+		}
+		numbers[i] = n
+	}
+	return numbers, true
+}
+
+// Line writes a line of parts, each of which is a string or an int, and its line feed.
+func Line(parts ...any) string {
+	var line strings.Builder
+	for i, part := range parts {
+		if i > 0 {
+			line.WriteByte(' ')
+		}
+		switch p := part.(type) {
+		case string:
+			line.WriteString(p)
+		case int:
+			line.WriteString(strconv.Itoa(p))
+		}
+	}
+	line.WriteByte('\n')
+	return line.String()
+}
+
+// Lines yields the numbers of the lines of a text, from 1 on, and their words.
+// A last line without a line feed has no words, so that it is none of any form; all other lines have at least one,
+// which may be empty.
+func Lines(t string) iter.Seq2[int, []string] {
+	return func(yield func(int, []string) bool) {
+		for n := 1; t != ""; n++ {
+			line, rest, ended := strings.Cut(t, "\n")
+			var l []string
+			if ended {
+				l = strings.Split(line, " ")
+			}
+			if !yield(n, l) {
+				return
+			}
+			t = rest
+		}
+	}
+}
