@@ -6,6 +6,7 @@ import (
 	"strings"
 
 	"agraffe/api"
+	"agraffe/whole"
 	"agraffe/words"
 )
 
@@ -14,23 +15,17 @@ const maxDigits = 10
 
 // CheckFrac looks at the form first (P1.1): the parts of a fraction in a wrong form mean nothing.
 func CheckFrac(f api.Frac) api.Errno {
-	if f.Den < 1 || commonDivisor(size(f.Num), size(f.Den)) != 1 {
+	if f.Den < 1 || whole.CommonDivisor(whole.Size(f.Num), whole.Size(f.Den)) != 1 {
 		return api.ErrForm
 	}
-	if !within(f.Num, api.MaxPart) || f.Den > api.MaxPart {
+	if !whole.Within(f.Num, api.MaxPart) || f.Den > api.MaxPart {
 		return api.ErrRange
 	}
 	return api.OK
 }
 
-// reduced takes a denominator above 0.
-func reduced(num, den int) api.Frac {
-	divisor := int(commonDivisor(size(num), size(den)))
-	return api.Frac{Num: num / divisor, Den: den / divisor}
-}
-
 func reducedWithin(num, den int) (api.Frac, api.Errno) {
-	f := reduced(num, den)
+	f := whole.Reduced(num, den)
 	if CheckFrac(f) != api.OK {
 		return api.Frac{}, api.ErrLarge
 	}
@@ -84,7 +79,7 @@ func Rounded(f api.Frac, times int) (api.Range, api.Errno) {
 		return api.Range{}, api.ErrRange
 	}
 	product := f.Num * times
-	return api.Range{Lo: dividedDown(product, f.Den), Hi: -dividedDown(-product, f.Den)}, api.OK
+	return api.Range{Lo: whole.Down(product, f.Den), Hi: whole.Up(product, f.Den)}, api.OK
 }
 
 // FormatFrac returns the text of any fraction, a valid one or not (P1.8).

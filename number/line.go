@@ -1,6 +1,9 @@
 package number
 
-import "agraffe/api"
+import (
+	"agraffe/api"
+	"agraffe/whole"
+)
 
 const (
 	minDots   = 3
@@ -13,7 +16,7 @@ func checkDots(l []api.Dot) api.Errno {
 		return api.ErrShape
 	}
 	for i, d := range l {
-		if !within(d.X, maxPlace) || !within(d.Y, maxPlace) {
+		if !whole.Within(d.X, maxPlace) || !whole.Within(d.Y, maxPlace) {
 			return api.ErrRange
 		}
 		if i > 0 && d.X <= l[i-1].X {
@@ -62,9 +65,9 @@ func lineOfThree(l []api.Dot, three [3]int) api.Trend {
 	a, c := l[three[0]], l[three[2]]
 	height, width := bend(l, three)
 	return api.Trend{
-		Start: reduced(2*(a.Y*width-(c.Y-a.Y)*a.X)+height, 2*width),
-		Slope: reduced(c.Y-a.Y, width),
-		Error: reduced(max(height, -height), 2*width),
+		Start: whole.Reduced(2*(a.Y*width-(c.Y-a.Y)*a.X)+height, 2*width),
+		Slope: whole.Reduced(c.Y-a.Y, width),
+		Error: whole.Reduced(max(height, -height), 2*width),
 		Proof: three,
 	}
 }
@@ -88,7 +91,7 @@ func CheckLine(l []api.Dot, t api.Trend) api.Errno {
 	start, slope, most := times(t.Start), times(t.Slope), times(t.Error)
 	errorAt := func(i int) int { return l[i].Y*common - start - slope*l[i].X }
 	for i := range l {
-		if !within(errorAt(i), most) {
+		if !whole.Within(errorAt(i), most) {
 			return api.ErrBreak
 		}
 	}
@@ -116,7 +119,7 @@ func checkThree(dots int, three [3]int) api.Errno {
 func commonMultiple(most int, l ...api.Frac) (int, bool) {
 	multiple := 1
 	for _, f := range l {
-		multiple *= f.Den / int(commonDivisor(size(multiple), size(f.Den)))
+		multiple *= f.Den / int(whole.CommonDivisor(whole.Size(multiple), whole.Size(f.Den)))
 		if multiple > most {
 			return 0, false
 		}

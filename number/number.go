@@ -21,35 +21,6 @@ func firstError(l ...api.Errno) api.Errno {
 	return api.OK
 }
 
-// within compares without turning a sign: the least int has no positive counterpart.
-func within(n, most int) bool {
-	return -most <= n && n <= most
-}
-
-// size is unsigned because the size of the least int is no int.
-func size(n int) uint64 {
-	if n < 0 {
-		return -uint64(n)
-	}
-	return uint64(n)
-}
-
-func commonDivisor(a, b uint64) uint64 {
-	for b != 0 {
-		a, b = b, a%b
-	}
-	return a
-}
-
-// dividedDown takes a positive divisor; Go's own division rounds towards 0.
-func dividedDown(n, by int) int {
-	quotient := n / by
-	if n%by < 0 {
-		quotient--
-	}
-	return quotient
-}
-
 // greatest returns the greatest number from low to high for which holds answers true.
 // It takes for granted that low is such a number, and that the numbers behind one that is none are none.
 func greatest(low, high int, holds func(int) bool) int {

@@ -2,6 +2,7 @@ package number
 
 import (
 	"agraffe/api"
+	"agraffe/whole"
 )
 
 // primes are the numbers of whose powers a pitch is the product.
@@ -16,9 +17,9 @@ func exponentsOf(p api.Pitch) exponents {
 
 // lowest divides exponents and their denominator by what they have in common.
 func lowest(e exponents, den int) (exponents, int) {
-	divisor := size(den)
+	divisor := whole.Size(den)
 	for _, x := range e {
-		divisor = commonDivisor(divisor, size(x))
+		divisor = whole.CommonDivisor(divisor, whole.Size(x))
 	}
 	for i := range e {
 		e[i] /= int(divisor)
@@ -59,7 +60,7 @@ func CheckPitch(p api.Pitch) api.Errno {
 		return api.ErrRange
 	}
 	for _, x := range exponentsOf(p) {
-		if !within(x, api.MaxExponent) {
+		if !whole.Within(x, api.MaxExponent) {
 			return api.ErrRange
 		}
 	}

@@ -1,10 +1,13 @@
 package number
 
-import "agraffe/api"
+import (
+	"agraffe/api"
+	"agraffe/whole"
+)
 
 // CheckRange returns ErrRange for a bound that is too great in size, ErrOrder for bounds in the wrong order (P1.5).
 func CheckRange(r api.Range) api.Errno {
-	if !within(r.Lo, api.MaxNumber) || !within(r.Hi, api.MaxNumber) {
+	if !whole.Within(r.Lo, api.MaxNumber) || !whole.Within(r.Hi, api.MaxNumber) {
 		return api.ErrRange
 	}
 	if r.Lo > r.Hi {
@@ -47,14 +50,14 @@ func productDown(n int, by api.Frac) (int, bool) {
 	if by.Num == 0 {
 		return 0, true
 	}
-	whole := dividedDown(n, by.Den)
-	remainder := n - whole*by.Den
+	quotient := whole.Down(n, by.Den)
+	remainder := n - quotient*by.Den
 	// What the remainder adds is at most MaxPart in size: it cannot bring such a product back.
-	if size(whole) > 2*api.MaxNumber/size(by.Num) {
+	if whole.Size(quotient) > 2*api.MaxNumber/whole.Size(by.Num) {
 		return 0, false
 	}
-	product := whole*by.Num + dividedDown(remainder*by.Num, by.Den)
-	return product, within(product, api.MaxNumber)
+	product := quotient*by.Num + whole.Down(remainder*by.Num, by.Den)
+	return product, whole.Within(product, api.MaxNumber)
 }
 
 // Meet returns the range that two ranges have in common (P1.5).

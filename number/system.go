@@ -4,6 +4,7 @@ import (
 	"slices"
 
 	"agraffe/api"
+	"agraffe/whole"
 )
 
 // CheckSystem returns the error of a system (P1.6).
@@ -18,7 +19,7 @@ func CheckSystem(n int, l []api.Bound) api.Errno {
 		if b.From < 0 || b.From >= n || b.To < 0 || b.To >= n {
 			return api.ErrMissing
 		}
-		if !within(b.Most, api.MaxPart) {
+		if !whole.Within(b.Most, api.MaxPart) {
 			return api.ErrRange
 		}
 	}

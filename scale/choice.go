@@ -5,6 +5,7 @@ import (
 	"slices"
 
 	"agraffe/api"
+	"agraffe/whole"
 )
 
 // maxPotential is more than any choice costs, so that it may stand for a gauge to which no choice leads.
@@ -55,7 +56,7 @@ func gaugesError(gauges []int) api.Errno {
 	if len(gauges) == 0 || len(gauges) > api.MaxGauges {
 		return api.ErrLarge
 	}
-	return ascentError(gauges, minCore, maxCore)
+	return whole.AscentError(gauges, minCore, maxCore)
 }
 
 // together yields the gauges of neighbouring unisons that go together, the earlier unison's one first.
@@ -141,7 +142,7 @@ func CheckChoice(s api.Stringing, m api.TensionLimits, gauges []int, c api.Gauge
 	}
 	for _, l := range c.Potentials {
 		for _, p := range l {
-			if !between(p, -maxPotential, maxPotential) {
+			if !whole.Between(p, -maxPotential, maxPotential) {
 				return 0, api.ErrRange
 			}
 		}
@@ -164,7 +165,7 @@ func costOf(chosen []int, gauges int, fits [][]fit, most int) (int, api.Errno) {
 	cost := 0
 	var last fit
 	for i, g := range chosen {
-		if !between(g, 0, gauges-1) {
+		if !whole.Between(g, 0, gauges-1) {
 			return 0, api.ErrMissing
 		}
 		at := slices.IndexFunc(fits[i], func(f fit) bool { return f.gauge == g })
@@ -217,7 +218,7 @@ func With(s api.Stringing, gauges, choice []int) (api.Stringing, api.Errno) {
 	}
 	s.Wires, s.Unisons = slices.Clone(s.Wires), slices.Clone(s.Unisons)
 	for i, g := range choice {
-		if !between(g, 0, len(gauges)-1) {
+		if !whole.Between(g, 0, len(gauges)-1) {
 			return api.Stringing{}, api.ErrMissing
 		}
 		s.Unisons[i].Strand.Core = gauges[g]

@@ -3,6 +3,7 @@ package scale
 import (
 	"agraffe/api"
 	"agraffe/number"
+	"agraffe/whole"
 )
 
 // LengthSystem returns the length system of ranges of lengths and a drop (P2.6).
@@ -32,11 +33,11 @@ func lengthsError(bounds []api.Range, drop api.Range) api.Errno {
 		return api.ErrLarge
 	}
 	for _, r := range bounds {
-		if r.Lo < minLength || r.Lo > r.Hi || r.Hi > maxLength {
+		if !whole.Inside(r, minLength, maxLength) {
 			return api.ErrRange
 		}
 	}
-	if drop.Lo < -maxLength || drop.Lo > drop.Hi || drop.Hi > maxLength {
+	if !whole.Inside(drop, -maxLength, maxLength) {
 		return api.ErrRange
 	}
 	return api.OK

@@ -4,6 +4,7 @@ import (
 	"sort"
 
 	"agraffe/api"
+	"agraffe/whole"
 )
 
 const maxShare = 1000000
@@ -11,11 +12,11 @@ const maxShare = 1000000
 // CheckLimits returns the error of limits (P2.4).
 func CheckLimits(m api.TensionLimits) api.Errno {
 	for _, n := range [3]int{m.Least, m.Most, m.Jump} {
-		if !between(n, 0, api.MaxNumber) {
+		if !whole.Between(n, 0, api.MaxNumber) {
 			return api.ErrRange
 		}
 	}
-	if !between(m.Share, 0, maxShare) {
+	if !whole.Between(m.Share, 0, maxShare) {
 		return api.ErrRange
 	}
 	if m.Least > m.Most {

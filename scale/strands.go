@@ -4,6 +4,7 @@ import (
 	"sort"
 
 	"agraffe/api"
+	"agraffe/whole"
 )
 
 // Tension returns the tension of a strand at a frequency (P2.2).
@@ -66,7 +67,7 @@ func tunedOf(l []api.Wire, s api.Strand, f api.Range) (tuned, api.Errno) {
 }
 
 func frequencyError(f api.Range) api.Errno {
-	if f.Lo < 1 || f.Lo > f.Hi || f.Hi > maxFrequency {
+	if !whole.Inside(f, 1, maxFrequency) {
 		return api.ErrRange
 	}
 	return api.OK
@@ -94,7 +95,7 @@ func ClassOf(marks []int, x api.Range) (int, api.Errno) {
 	if e := marksError(marks); e != api.OK {
 		return 0, e
 	}
-	if x.Lo > x.Hi || x.Lo < 0 || x.Hi > api.MaxNumber {
+	if !whole.Inside(x, 0, api.MaxNumber) {
 		return 0, api.ErrRange
 	}
 	marksUpTo := func(n int) int {
@@ -111,5 +112,5 @@ func marksError(marks []int) api.Errno {
 	if len(marks) > api.MaxMarks {
 		return api.ErrLarge
 	}
-	return ascentError(marks, 1, api.MaxNumber)
+	return whole.AscentError(marks, 1, api.MaxNumber)
 }

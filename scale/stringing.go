@@ -3,6 +3,7 @@ package scale
 import (
 	"agraffe/api"
 	"agraffe/number"
+	"agraffe/whole"
 )
 
 const (
@@ -18,7 +19,7 @@ func CheckStringing(s api.Stringing) (int, api.Errno) {
 
 // unisonsOf returns the strands of a stringing, tuned, one for each unison; or the first wrong unison and its error.
 func unisonsOf(s api.Stringing) ([]tuned, int, api.Errno) {
-	if !between(s.Fork, minFork, maxFork) {
+	if !whole.Between(s.Fork, minFork, maxFork) {
 		return nil, 0, api.ErrRange
 	}
 	if e := CheckWires(s.Wires); e != api.OK {
@@ -46,7 +47,7 @@ func tunedUnison(fork int, wires map[string]api.Wire, u api.Unison) (tuned, api.
 	if e := number.CheckPitch(u.Pitch); e != api.OK {
 		return tuned{}, e
 	}
-	if !between(u.Count, 1, maxCount) {
+	if !whole.Between(u.Count, 1, maxCount) {
 		return tuned{}, api.ErrRange
 	}
 	x, e := strung(wires, u.Strand)

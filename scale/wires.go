@@ -2,6 +2,7 @@ package scale
 
 import (
 	"agraffe/api"
+	"agraffe/whole"
 	"agraffe/words"
 )
 
@@ -32,7 +33,7 @@ func CheckWires(l []api.Wire) api.Errno {
 		if earlier[w.Name] {
 			return api.ErrExists
 		}
-		if !between(w.Mass, 1, maxMass) || !between(w.Strength, 1, maxStrength) || !between(w.Stiff, 0, maxStiff) {
+		if !whole.Between(w.Mass, 1, maxMass) || !whole.Between(w.Strength, 1, maxStrength) || !whole.Between(w.Stiff, 0, maxStiff) {
 			return api.ErrRange
 		}
 		earlier[w.Name] = true
@@ -89,7 +90,7 @@ func strung(wires map[string]api.Wire, s api.Strand) (tuned, api.Errno) {
 }
 
 func sizesError(s api.Strand) api.Errno {
-	if !between(s.Length, minLength, maxLength) || !between(s.Core, minCore, maxCore) || !between(s.Over, 0, maxOver) {
+	if !whole.Between(s.Length, minLength, maxLength) || !whole.Between(s.Core, minCore, maxCore) || !whole.Between(s.Over, 0, maxOver) {
 		return api.ErrRange
 	}
 	wound := s.Over != 0
