@@ -1,11 +1,11 @@
 package number
 
 import (
-	"cmp"
 	"strconv"
 	"strings"
 
 	"agraffe/api"
+	"agraffe/fraction"
 	"agraffe/whole"
 	"agraffe/words"
 )
@@ -13,23 +13,9 @@ import (
 // maxDigits is how many digits a number in the text of a fraction has at most.
 const maxDigits = 10
 
-// CheckFrac looks at the form first (P1.1): the parts of a fraction in a wrong form mean nothing.
+// CheckFrac returns the error of a fraction (P1.1).
 func CheckFrac(f api.Frac) api.Errno {
-	if f.Den < 1 || whole.CommonDivisor(whole.Size(f.Num), whole.Size(f.Den)) != 1 {
-		return api.ErrForm
-	}
-	if !whole.Within(f.Num, api.MaxPart) || f.Den > api.MaxPart {
-		return api.ErrRange
-	}
-	return api.OK
-}
-
-func reducedWithin(num, den int) (api.Frac, api.Errno) {
-	f := whole.Reduced(num, den)
-	if CheckFrac(f) != api.OK {
-		return api.Frac{}, api.ErrLarge
-	}
-	return f, api.OK
+	return fraction.Error(f)
 }
 
 // Add returns a sum (P1.1).
@@ -37,7 +23,7 @@ func Add(a, b api.Frac) (api.Frac, api.Errno) {
 	if e := firstError(CheckFrac(a), CheckFrac(b)); e != api.OK {
 		return api.Frac{}, e
 	}
-	return reducedWithin(a.Num*b.Den+b.Num*a.Den, a.Den*b.Den)
+	return fraction.From(a).Plus(b).End()
 }
 
 // Times returns a product (P1.1).
@@ -45,7 +31,7 @@ func Times(a, b api.Frac) (api.Frac, api.Errno) {
 	if e := firstError(CheckFrac(a), CheckFrac(b)); e != api.OK {
 		return api.Frac{}, e
 	}
-	return reducedWithin(a.Num*b.Num, a.Den*b.Den)
+	return fraction.From(a).Times(b).End()
 }
 
 // Divide returns a divided by b (P1.1).
@@ -56,10 +42,7 @@ func Divide(a, b api.Frac) (api.Frac, api.Errno) {
 	if b.Num == 0 {
 		return api.Frac{}, api.ErrZero
 	}
-	if b.Num < 0 {
-		a.Num, b.Num = -a.Num, -b.Num
-	}
-	return reducedWithin(a.Num*b.Den, a.Den*b.Num)
+	return fraction.From(a).Over(b).End()
 }
 
 // Compare returns -1, 0 or 1 as a is less than, equal to, or greater than b (P1.1).
@@ -67,7 +50,7 @@ func Compare(a, b api.Frac) (int, api.Errno) {
 	if e := firstError(CheckFrac(a), CheckFrac(b)); e != api.OK {
 		return 0, e
 	}
-	return cmp.Compare(a.Num*b.Den, b.Num*a.Den), api.OK
+	return fraction.Compare(a, b), api.OK
 }
 
 // Rounded does not hold its bounds against MaxNumber: P1.1 names no error for that.
