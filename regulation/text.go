@@ -17,7 +17,7 @@ const (
 
 // FormatStep returns the text of a step (P5.10).
 func FormatStep(s api.Step) string {
-	return strings.TrimSuffix(words.Line(s.Adjustment, s.Steps), "\n")
+	return words.Joined(s.Adjustment, s.Steps)
 }
 
 // ParseStep returns the step with a text (P5.10).

@@ -51,22 +51,26 @@ func Numbers(l []string, digits int) ([]int, bool) {
 	return numbers, true
 }
 
-// Line writes a line of parts, each of which is a string or an int, and its line feed.
-func Line(parts ...any) string {
-	var line strings.Builder
+// Joined writes parts, each of which is a string or an int, with single blanks between.
+func Joined(parts ...any) string {
+	var text strings.Builder
 	for i, part := range parts {
 		if i > 0 {
-			line.WriteByte(' ')
+			text.WriteByte(' ')
 		}
 		switch p := part.(type) {
 		case string:
-			line.WriteString(p)
+			text.WriteString(p)
 		case int:
-			line.WriteString(strconv.Itoa(p))
+			text.WriteString(strconv.Itoa(p))
 		}
 	}
-	line.WriteByte('\n')
-	return line.String()
+	return text.String()
+}
+
+// Line writes a line of parts, and its line feed.
+func Line(parts ...any) string {
+	return Joined(parts...) + "\n"
 }
 
 // Lines yields the numbers of the lines of a text, from 1 on, and their words.

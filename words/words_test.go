@@ -61,6 +61,20 @@ func TestLine(t *testing.T) {
 	}
 }
 
+func TestJoined(t *testing.T) {
+	for want, got := range map[string]string{
+		"":          words.Joined(),
+		"a":         words.Joined("a"),
+		"3 -2":      words.Joined(3, -2),
+		" 0  b ":    words.Joined("", 0, "", "b", ""),
+		"young 2 0": words.Joined("young", 2, 0),
+	} {
+		if got != want {
+			t.Errorf("%q, want %q", got, want)
+		}
+	}
+}
+
 func TestLines(t *testing.T) {
 	for text, want := range map[string][][]string{
 		"":             nil,
