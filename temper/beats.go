@@ -4,6 +4,7 @@ import (
 	"cmp"
 
 	"agraffe/api"
+	"agraffe/whole"
 )
 
 const maxRising = 100 // tests whose beats may rise
@@ -56,7 +57,7 @@ func CheckTest(b api.BeatTest) api.Errno {
 
 // pureInterval returns the interval at which the partials of a test agree, or the error of the test.
 func pureInterval(b api.BeatTest) (exponents, api.Errno) {
-	partialError := func(n int) api.Errno { return rangeError(n, 1, api.MaxPartial) }
+	partialError := func(n int) api.Errno { return whole.RangeError(n, 1, api.MaxPartial) }
 	if e := cmp.Or(noteError(b.Low), noteError(b.High), partialError(b.P), partialError(b.Q)); e != api.OK {
 		return exponents{}, e
 	}

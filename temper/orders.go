@@ -31,7 +31,7 @@ func Bearings() []api.TuneStep {
 
 // Order returns the bearings, and octaves from them up to high and down to low (P6.7).
 func Order(low, high int) ([]api.TuneStep, api.Errno) {
-	if e := cmp.Or(rangeError(low, 0, bearingsLow), rangeError(high, api.ForkNote, api.LastNote)); e != api.OK {
+	if e := cmp.Or(whole.RangeError(low, 0, bearingsLow), whole.RangeError(high, api.ForkNote, api.LastNote)); e != api.OK {
 		return nil, e
 	}
 	l := Bearings()
@@ -89,7 +89,7 @@ func sourcesOf(l []api.TuneStep, low, high int) (sources, api.Errno) {
 
 // CheckOrder accepts an order of all notes from low to high (P6.7).
 func CheckOrder(l []api.TuneStep, low, high int) api.Errno {
-	if e := cmp.Or(noteError(low), noteError(high), rangeError(api.ForkNote, low, high)); e != api.OK {
+	if e := cmp.Or(noteError(low), noteError(high), whole.RangeError(api.ForkNote, low, high)); e != api.OK {
 		return e
 	}
 	from, e := sourcesOf(l, low, high)

@@ -15,6 +15,14 @@ func Within(n, most int) bool {
 	return Between(n, -most, most)
 }
 
+// RangeError is for a number that has to be from low to high.
+func RangeError(n, low, high int) api.Errno {
+	if !Between(n, low, high) {
+		return api.ErrRange
+	}
+	return api.OK
+}
+
 // Inside tells whether a range is one of numbers from low to high.
 func Inside(r api.Range, low, high int) bool {
 	return low <= r.Lo && r.Lo <= r.Hi && r.Hi <= high

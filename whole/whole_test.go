@@ -23,6 +23,9 @@ func TestBounds(t *testing.T) {
 		if got := whole.Between(c.n, c.low, c.high); got != c.want {
 			t.Errorf("%d from %d to %d: %t", c.n, c.low, c.high, got)
 		}
+		if e := whole.RangeError(c.n, c.low, c.high); e != map[bool]api.Errno{true: api.OK, false: api.ErrRange}[c.want] {
+			t.Errorf("%d from %d to %d: error %d", c.n, c.low, c.high, e)
+		}
 	}
 	for _, c := range []struct {
 		n, most int
