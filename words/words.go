@@ -1,9 +1,10 @@
 // Package words is no chapter: it holds what the texts of the layers have in common, which are names, numbers,
-// and lines of words with single blanks between.
+// and lines of words with single blanks between; and how things are found by their names.
 package words
 
 import (
 	"iter"
+	"slices"
 	"strconv"
 	"strings"
 
@@ -25,6 +26,39 @@ func IsName(s string) bool {
 
 func isLetter(c byte) bool {
 	return 'a' <= c && c <= 'z' || 'A' <= c && c <= 'Z'
+}
+
+// NumbersOf finds the numbers of elements by their names; of several elements with one name it finds the first one.
+func NumbersOf[T any](l []T, nameOf func(T) string) map[string]int {
+	numbers := make(map[string]int)
+	for n, x := range slices.Backward(l) {
+		numbers[nameOf(x)] = n
+	}
+	return numbers
+}
+
+// NameError is for the name of the element n of a list, in which its elements are found by NumbersOf.
+func NameError(name string, n int, numbers map[string]int) api.Errno {
+	if !IsName(name) {
+		return api.ErrName
+	}
+	if numbers[name] < n {
+		return api.ErrExists
+	}
+	return api.OK
+}
+
+// NamesError is for names by which NumbersOf has found elements, each of them once.
+func NamesError(l []string, numbers map[string]int) api.Errno {
+	for n, name := range l {
+		if _, found := numbers[name]; !found {
+			return api.ErrMissing
+		}
+		if slices.Contains(l[:n], name) {
+			return api.ErrExists
+		}
+	}
+	return api.OK
 }
 
 // Number reads a number of at most so many digits.

@@ -1,11 +1,13 @@
 package words_test
 
 import (
+	"maps"
 	"math"
 	"slices"
 	"strconv"
 	"testing"
 
+	"agraffe/api"
 	"agraffe/words"
 )
 
@@ -18,6 +20,38 @@ func TestNames(t *testing.T) {
 	for _, s := range []string{"", "-", "1a", "-a", "abcdefghijklm", "a b", "a_b", "a\n", "a.", "a/", "a:", "a@", "a[", "a`", "a{", "ä", "aä", "a\x00", " a"} {
 		if words.IsName(s) {
 			t.Errorf("%q is a name", s)
+		}
+	}
+}
+
+func TestFoundNames(t *testing.T) {
+	names := []string{"b", "a", "b", "", "c"}
+	itself := func(s string) string { return s }
+	numbers := words.NumbersOf(names, itself)
+	if want := map[string]int{"b": 0, "a": 1, "": 3, "c": 4}; !maps.Equal(numbers, want) {
+		t.Errorf("numbers: %v, want %v", numbers, want)
+	}
+	if numbers := words.NumbersOf(nil, itself); len(numbers) != 0 {
+		t.Errorf("numbers of nothing: %v", numbers)
+	}
+	for n, want := range []api.Errno{api.OK, api.OK, api.ErrExists, api.ErrName, api.OK} {
+		if e := words.NameError(names[n], n, numbers); e != want {
+			t.Errorf("name %d: error %d, want %d", n, e, want)
+		}
+	}
+	for _, c := range []struct {
+		l    []string
+		want api.Errno
+	}{
+		{nil, api.OK},
+		{[]string{"c"}, api.OK},
+		{[]string{"c", "a", "b", ""}, api.OK},
+		{[]string{"c", "d", "c"}, api.ErrMissing},
+		{[]string{"c", "a", "c", "d"}, api.ErrExists},
+		{[]string{"d", "d"}, api.ErrMissing},
+	} {
+		if e := words.NamesError(c.l, numbers); e != c.want {
+			t.Errorf("%q: error %d, want %d", c.l, e, c.want)
 		}
 	}
 }
