@@ -5,13 +5,14 @@ import (
 	"slices"
 
 	"agraffe/api"
+	"agraffe/sets"
 	"agraffe/whole"
 )
 
 // outcome is which of the tests with these signatures failed.
 type outcome struct {
 	signatures
-	failed testSet
+	failed sets.Set
 }
 
 // outcomeOf is for functions with tests and those of them that failed.
@@ -21,34 +22,15 @@ func outcomeOf(l []api.BeatTest, failed []int) (outcome, api.Errno) {
 		return outcome{}, e
 	}
 	isTest := func(n int) bool { return whole.Between(n, 0, len(l)-1) }
-	if e := setError(failed, isTest); e != api.OK {
+	if e := sets.ListError(failed, isTest); e != api.OK {
 		return outcome{}, e
 	}
-	x := outcome{signatures: s}
-	for _, n := range failed {
-		x.failed |= single(n)
-	}
-	return x, api.OK
-}
-
-// setError is for an ascending list of known numbers, all of which are looked at before their order.
-func setError(l []int, known func(int) bool) api.Errno {
-	for _, n := range l {
-		if !known(n) {
-			return api.ErrMissing
-		}
-	}
-	for i := 1; i < len(l); i++ {
-		if l[i] <= l[i-1] {
-			return api.ErrOrder
-		}
-	}
-	return api.OK
+	return outcome{signatures: s, failed: sets.Of(failed)}, api.OK
 }
 
 // explanationError is for a set of notes of the tests.
 func (x outcome) explanationError(set []int) api.Errno {
-	var some, odd testSet // tests with at least one of their notes in the set, and with just one
+	var some, odd sets.Set // tests with at least one of their notes in the set, and with just one
 	for _, note := range set {
 		some |= x.signatures[note]
 		odd ^= x.signatures[note]
@@ -100,7 +82,7 @@ func Explains(l []api.BeatTest, failed, set []int) api.Errno {
 	if e != api.OK {
 		return e
 	}
-	if e := setError(set, x.has); e != api.OK {
+	if e := sets.ListError(set, x.has); e != api.OK {
 		return e
 	}
 	return x.explanationError(set)

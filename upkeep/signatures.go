@@ -1,35 +1,15 @@
 package upkeep
 
 import (
-	"math/bits"
 	"slices"
 
 	"agraffe/api"
+	"agraffe/sets"
 )
 
-// testSet is a set of tests, a bit for each number: MaxBeatTests keeps them below 64.
-type testSet uint64
-
-func single(n int) testSet {
-	return 1 << n
-}
-
-// below returns the set of the first tests, so many of them.
-func below(n int) testSet {
-	return single(n) - 1
-}
-
-// list returns the numbers of the tests, ascending.
-func (s testSet) list() []int {
-	var l []int
-	for ; s != 0; s &= s - 1 {
-		l = append(l, bits.TrailingZeros64(uint64(s)))
-	}
-	return l
-}
-
-// signatures are those of all notes. That of a note which is in no test is empty, and counts as none.
-type signatures [noteCount]testSet
+// signatures are those of all notes, which are sets of tests: MaxBeatTests keeps their numbers below 64.
+// That of a note which is in no test is empty, and counts as none.
+type signatures [noteCount]sets.Set
 
 // signaturesOf is for functions with tests.
 func signaturesOf(l []api.BeatTest) (signatures, api.Errno) {
@@ -38,8 +18,8 @@ func signaturesOf(l []api.BeatTest) (signatures, api.Errno) {
 	}
 	var s signatures
 	for n, b := range l {
-		s[b.Low] |= single(n)
-		s[b.High] |= single(n)
+		s[b.Low] |= sets.Single(n)
+		s[b.High] |= sets.Single(n)
 	}
 	return s, api.OK
 }
@@ -71,7 +51,7 @@ func (s signatures) alike() ([2]int, bool) {
 }
 
 // suffice tells whether some of the tests have all the notes, and single out every string.
-func (s signatures) suffice(some testSet) bool {
+func (s signatures) suffice(some sets.Set) bool {
 	var left signatures
 	for _, note := range s.notes() {
 		left[note] = s[note] & some
@@ -104,7 +84,7 @@ func Signature(l []api.BeatTest, note int) ([]int, api.Errno) {
 	if !s.has(note) {
 		return nil, api.ErrMissing
 	}
-	return s[note].list(), api.OK
+	return s[note].List(), api.OK
 }
 
 // SinglesOut tells whether tests single out every string, or returns the first two notes that they do not tell apart (P7.3).
@@ -127,11 +107,11 @@ func Thinned(l []api.BeatTest) ([]int, api.Errno) {
 	if _, found := s.alike(); found {
 		return nil, api.ErrState
 	}
-	left := below(len(l))
+	left := sets.Below(len(l))
 	for n := range slices.Backward(l) {
-		if without := left &^ single(n); s.suffice(without) {
+		if without := left &^ sets.Single(n); s.suffice(without) {
 			left = without
 		}
 	}
-	return left.list(), api.OK
+	return left.List(), api.OK
 }
